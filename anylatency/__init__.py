@@ -1,0 +1,1 @@
+"""Rows of instructions of which some take nobody knows how long."""
