@@ -7,12 +7,19 @@ from pathlib import Path
 
 PACKAGE = Path(__file__).resolve().parent.parent / "anylatency"
 # The files of the interface, in the order in which they are written; those that are there must import only so.
-FILES = ("errors", "plain", "blocks", "issue")
+FILES = ("errors", "plain", "blocks", "issue", "spans", "waits", "ends", "never", "moves")
 LISTED = {
     "blocks": "is_block names_in reads_of readers_of needs_of needed_by slow_in awaited_in is_order least_order"
               " how_many_orders order_at number_of_order with_row without made_slow made_quick with_live renamed",
     "issue": "is_latencies latencies_of issue_ticks come_ticks end_of idle_stretches how_many_idle held_up issued_at"
              " on_way most_on_way slack_of quickest_order",
+    "waits": "first_reader wait_of gap_of gaps meets meeting adds_up adding how_many_adding most_adding is_most_adding"
+             " at_once most_at_once parted is_parted",
+    "ends": "end_from makers maker is_maker which_matter which_hold end_range worth fewest_quick latencies_reaching",
+    "never": "never_later alike compare slow_ones gap_changes meet_changes later_by latencies_later is_latencies_later"
+             " later_by_within never_later_within worst_set safe_top",
+    "moves": "exchanged effect gap_effects free_places better_places climbed moved places_for free_for free_way"
+             " fewest_free is_free_way paused hidden_under pause_cost",
 }
 BUILTINS = set("""len range enumerate zip min max sum abs sorted reversed int str bool list tuple dict set isinstance ord
     repr any all divmod pow Exception ValueError TypeError KeyError IndexError LookupError NotImplemented""".split())

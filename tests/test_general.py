@@ -4,13 +4,14 @@ import inspect
 import unittest
 from copy import deepcopy
 
-from anylatency import blocks, issue
+from anylatency import blocks, ends, issue, moves, never, waits
 from anylatency.errors import Needs, NoName, NoNumber, NoOrder, Twice
 from tests.small import has_list, listed
 
 BLOCK = ((("a", (), True), ("b", (), True), ("u", ("a", "b"), False), ("v", ("b",), False)), ("u", "v"))
 ORDER, WRONG = ("a", "b", "u", "v"), ("u", "a", "b", "v")
 TOLD = (("a", 3), ("b", 10 ** 40))
+OTHER, ONES, TOPS = ("b", "v", "a", "u"), (("a", 1), ("b", 1)), (("a", 3), ("b", 0))
 
 # Each function of the interface with the names of what it takes; thing is never handed in as a list.
 CALLS = (
@@ -46,7 +47,63 @@ CALLS = (
     (issue.most_on_way, ("block", "order", "latencies"), (BLOCK, ORDER, TOLD)),
     (issue.slack_of, ("block", "order", "latencies", "name"), (BLOCK, ORDER, TOLD, "a")),
     (issue.quickest_order, ("block", "latencies"), (BLOCK, TOLD)),
+    (waits.first_reader, ("block", "order", "name"), (BLOCK, ORDER, "b")),
+    (waits.wait_of, ("block", "order", "name"), (BLOCK, ORDER, "b")),
+    (waits.gap_of, ("block", "order", "name"), (BLOCK, ORDER, "a")),
+    (waits.gaps, ("block", "order"), (BLOCK, ORDER)),
+    (waits.meets, ("block", "order", "one", "other"), (BLOCK, ORDER, "b", "a")),
+    (waits.meeting, ("block", "order"), (BLOCK, ORDER)),
+    (waits.adds_up, ("block", "order", "some"), (BLOCK, OTHER, ("a", "b"))),
+    (waits.adding, ("block", "order"), (BLOCK, OTHER)),
+    (waits.how_many_adding, ("block", "order"), (BLOCK, OTHER)),
+    (waits.most_adding, ("block", "order"), (BLOCK, ORDER)),
+    (waits.is_most_adding, ("block", "order", "thing"), (BLOCK, ORDER, ("b",))),
+    (waits.at_once, ("block", "order", "place"), (BLOCK, ORDER, 1)),
+    (waits.most_at_once, ("block", "order"), (BLOCK, ORDER)),
+    (waits.parted, ("block", "order"), (BLOCK, ORDER)),
+    (waits.is_parted, ("block", "order", "thing"), (BLOCK, ORDER, (("b",), ("a",)))),
+    (ends.end_from, ("block", "order", "latencies", "some"), (BLOCK, OTHER, TOLD, ("a", "b"))),
+    (ends.makers, ("block", "order", "latencies"), (BLOCK, OTHER, ONES)),
+    (ends.maker, ("block", "order", "latencies"), (BLOCK, OTHER, ONES)),
+    (ends.is_maker, ("block", "order", "latencies", "thing"), (BLOCK, OTHER, ONES, ("a", "b"))),
+    (ends.which_matter, ("block", "order", "latencies"), (BLOCK, OTHER, ONES)),
+    (ends.which_hold, ("block", "order", "latencies"), (BLOCK, OTHER, TOLD)),
+    (ends.end_range, ("block", "order", "low", "high"), (BLOCK, ORDER, ONES, TOLD)),
+    (ends.worth, ("block", "order", "latencies", "name"), (BLOCK, ORDER, TOLD, "b")),
+    (ends.fewest_quick, ("block", "order", "latencies", "end"), (BLOCK, ORDER, TOLD, 5)),
+    (ends.latencies_reaching, ("block", "order", "end"), (BLOCK, ORDER, 10 ** 40)),
+    (never.never_later, ("block", "one", "other"), (BLOCK, ORDER, OTHER)),
+    (never.alike, ("block", "one", "other"), (BLOCK, ORDER, ORDER)),
+    (never.compare, ("block", "one", "other"), (BLOCK, ORDER, OTHER)),
+    (never.slow_ones, ("block", "one", "other"), (BLOCK, OTHER, ORDER)),
+    (never.gap_changes, ("block", "one", "other"), (BLOCK, OTHER, ORDER)),
+    (never.meet_changes, ("block", "one", "other"), (BLOCK, OTHER, ORDER)),
+    (never.later_by, ("block", "one", "other"), (BLOCK, ORDER, OTHER)),
+    (never.latencies_later, ("block", "one", "other", "number"), (BLOCK, OTHER, ORDER, 10 ** 40)),
+    (never.is_latencies_later, ("block", "one", "other", "number", "thing"), (BLOCK, OTHER, ORDER, 1, TOLD)),
+    (never.later_by_within, ("block", "one", "other", "tops"), (BLOCK, OTHER, ORDER, TOPS)),
+    (never.never_later_within, ("block", "one", "other", "tops"), (BLOCK, OTHER, ORDER, TOPS)),
+    (never.worst_set, ("block", "one", "other", "tops"), (BLOCK, OTHER, ORDER, TOPS)),
+    (never.safe_top, ("block", "one", "other"), (BLOCK, OTHER, ORDER)),
+    (moves.exchanged, ("block", "order", "place"), (BLOCK, OTHER, 1)),
+    (moves.effect, ("block", "order", "place"), (BLOCK, OTHER, 1)),
+    (moves.gap_effects, ("block", "order", "place"), (BLOCK, OTHER, 1)),
+    (moves.free_places, ("block", "order"), (BLOCK, OTHER)),
+    (moves.better_places, ("block", "order"), (BLOCK, OTHER)),
+    (moves.climbed, ("block", "order"), (BLOCK, OTHER)),
+    (moves.moved, ("block", "order", "name", "place"), (BLOCK, OTHER, "a", 0)),
+    (moves.places_for, ("block", "order", "name"), (BLOCK, OTHER, "a")),
+    (moves.free_for, ("block", "order", "name"), (BLOCK, OTHER, "a")),
+    (moves.free_way, ("block", "one", "other"), (BLOCK, OTHER, ("b", "a", "v", "u"))),
+    (moves.fewest_free, ("block", "one", "other"), (BLOCK, OTHER, ("b", "a", "v", "u"))),
+    (moves.is_free_way, ("block", "one", "other", "thing"), (BLOCK, OTHER, ("b", "a", "v", "u"), (1,))),
+    (moves.paused, ("block", "order", "name", "place"), (BLOCK, ORDER, "n", 2)),
+    (moves.hidden_under, ("block", "order", "place"), (BLOCK, ORDER, 2)),
+    (moves.pause_cost, ("block", "order", "place", "latencies"), (BLOCK, ORDER, 2, TOLD)),
 )
+
+# The functions that give a list; what others give, and what stands in these lists, are tuples all the way down.
+GIVE_LISTS = ("adding", "makers")
 
 REFUSED = (
     (blocks.reads_of, (BLOCK, "x"), NoName, {"name": "x"}),
@@ -61,6 +118,19 @@ REFUSED = (
     (issue.end_of, (BLOCK, WRONG, TOLD), NoOrder, {}),
     (issue.slack_of, (BLOCK, WRONG, TOLD, "x"), NoOrder, {}),
     (issue.slack_of, (BLOCK, ORDER, TOLD, "u"), NoName, {"name": "u"}),
+    (waits.gap_of, (BLOCK, WRONG, "x"), NoOrder, {}),
+    (waits.gap_of, (BLOCK, ORDER, "x"), NoName, {"name": "x"}),
+    (waits.adds_up, (BLOCK, ORDER, ("a", "x", "y")), NoName, {"name": "x"}),
+    (ends.end_from, (BLOCK, WRONG, TOLD, ("x",)), NoOrder, {}),
+    (ends.end_from, (BLOCK, ORDER, TOLD, ("b", "x")), NoName, {"name": "x"}),
+    (ends.worth, (BLOCK, ORDER, TOLD, "x"), NoName, {"name": "x"}),
+    (never.compare, (BLOCK, ORDER, WRONG), NoOrder, {}),
+    (moves.exchanged, (BLOCK, ORDER, 3), NoNumber, {"number": 3}),
+    (moves.exchanged, (BLOCK, ORDER, 1), Needs, {}),
+    (moves.moved, (BLOCK, ORDER, "x", 9), NoName, {"name": "x"}),
+    (moves.moved, (BLOCK, ORDER, "u", 0), Needs, {}),
+    (moves.paused, (BLOCK, ORDER, "u", 9), Twice, {"name": "u"}),
+    (moves.pause_cost, (BLOCK, ORDER, 9, TOLD), NoNumber, {"number": 9}),
 )
 
 
@@ -83,7 +153,7 @@ def half_listed(value, depth=0):
 
 class CallsTest(unittest.TestCase):
     def test_every_function_is_here(self):
-        for module, many in ((blocks, 19), (issue, 13)):
+        for module, many in ((blocks, 19), (issue, 13), (waits, 15), (ends, 10), (never, 13), (moves, 15)):
             called = [ask for ask, _, _ in CALLS if ask.__module__ == module.__name__]
             self.assertEqual(len(set(called)), many)
 
@@ -95,7 +165,8 @@ class CallsTest(unittest.TestCase):
         for ask, names, given in CALLS:
             with self.subTest(ask=ask.__name__):
                 told = ask(*given)
-                self.assertFalse(has_list(told))
+                self.assertIs(isinstance(told, list), ask.__name__ in GIVE_LISTS)
+                self.assertFalse(any(has_list(part) for part in told) if isinstance(told, list) else has_list(told))
                 halved = [value if name == "thing" else half_listed(value) for name, value in zip(names, given)]
                 for again in (ask(*given), ask(**dict(zip(names, given))), ask(*with_lists(names, given)),
                               ask(**dict(zip(names, with_lists(names, given)))), ask(*halved)):
@@ -120,6 +191,10 @@ class CallsTest(unittest.TestCase):
         self.assertIs(blocks.is_block(listed(BLOCK)), False)
         self.assertIs(blocks.is_order(listed(BLOCK), listed(ORDER)), False)
         self.assertIs(issue.is_latencies(listed(BLOCK), listed(TOLD)), False)
+        for ask, names, given in CALLS:
+            if names[-1] == "thing":
+                self.assertIs(ask(*given), True)
+                self.assertIs(ask(*given[:-1], listed(given[-1])), False)
 
     def test_refused(self):
         for ask, given, error, kept in REFUSED:
