@@ -19,8 +19,12 @@ QUICK = ((("a", (), False), ("b", ("a",), False), ("c", (), True)), ("a", "b"))
 
 
 def runs():
-    """Many BLOCKs with some of their ORDERs and LATENCIES: small blocks with all small LATENCIES."""
-    for block in few_blocks() + [WIDE, ROOMY]:
+    """Small BLOCKs with all their ORDERs and all small LATENCIES, and many more with some of theirs."""
+    for block in few_blocks(3) + [WIDE, MIXED]:
+        for order in all_orders(block):
+            for latencies in all_latencies(block, 3 if len(block[0]) < 5 else 2):
+                yield block, order, latencies
+    for block in few_blocks() + [ROOMY]:
         orders = all_orders(block)
         for order in orders[::1 + len(orders) // 3]:
             for latencies in all_latencies(block, 3)[::2]:

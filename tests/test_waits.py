@@ -6,8 +6,8 @@ from itertools import combinations, permutations
 from anylatency.errors import NoName, NoOrder
 from anylatency.waits import (adding, adds_up, at_once, first_reader, gap_of, gaps, how_many_adding, is_most_adding,
                               is_parted, meeting, meets, most_adding, most_at_once, parted, wait_of)
-from tests.small import (LETTERS, STRANGE, adding_by_hand, all_orders, all_sets, chain, few_blocks, gaps_by_hand,
-                         listed, loose, meeting_by_hand, some_blocks, waits_by_hand)
+from tests.small import (LETTERS, ROOMY, STRANGE, WIDE, adding_by_hand, all_orders, all_sets, chain, few_blocks,
+                         gaps_by_hand, listed, loose, meeting_by_hand, some_blocks, waits_by_hand)
 
 EMPTY = ((), ())
 GREAT = 10 ** 40
@@ -17,9 +17,12 @@ ORDER, TURNED = ("a", "b", "c", "d", "e"), ("b", "e", "a", "c", "d")
 QUICK = ((("a", (), False), ("b", ("a",), False), ("c", (), True)), ("a", "b"))
 
 
-def runs(blocks):
-    """Each BLOCK with some of its ORDERs."""
-    for block in blocks:
+def runs():
+    """Small BLOCKs with all their ORDERs, and many more with some of theirs."""
+    for block in few_blocks() + [WIDE, ROOMY, BLOCK]:
+        for order in all_orders(block):
+            yield block, order
+    for block in some_blocks():
         orders = all_orders(block)
         for order in orders[::1 + len(orders) // 3]:
             yield block, order
@@ -39,7 +42,7 @@ def partitions(names):
 
 class WaitsTest(unittest.TestCase):
     def test_waits_and_gaps(self):
-        for block, order in runs(some_blocks()):
+        for block, order in runs():
             waits, told = waits_by_hand(block, order), gaps_by_hand(block, order)
             for name in order:
                 readers = [order.index(one) for one, reads, _ in block[0] if name in reads]
@@ -49,7 +52,7 @@ class WaitsTest(unittest.TestCase):
             self.assertEqual(gaps(block, order), tuple(sorted(told.items())))
 
     def test_meeting(self):
-        for block, order in runs(some_blocks()):
+        for block, order in runs():
             pairs = meeting_by_hand(block, order)
             self.assertEqual(meeting(block, order), tuple(pairs))
             for one, other in permutations(order, 2):
@@ -103,7 +106,7 @@ class WaitsTest(unittest.TestCase):
 
 class AddingTest(unittest.TestCase):
     def test_adding(self):
-        for block, order in runs(some_blocks()):
+        for block, order in runs():
             told = adding_by_hand(block, order)
             self.assertEqual(adding(block, order), told)
             self.assertEqual(how_many_adding(block, order), len(told))
@@ -111,7 +114,7 @@ class AddingTest(unittest.TestCase):
                 self.assertIs(adds_up(block, order, some), some in told)
 
     def test_most_adding(self):
-        for block, order in runs(some_blocks()):
+        for block, order in runs():
             told = adding_by_hand(block, order)
             most = max(len(some) for some in told)
             for some in all_sets(order):
@@ -135,7 +138,7 @@ class AddingTest(unittest.TestCase):
 
 class AtOnceTest(unittest.TestCase):
     def test_at_once(self):
-        for block, order in runs(some_blocks()):
+        for block, order in runs():
             waits = waits_by_hand(block, order)
             most = 0
             for place in range(-2, len(order) + 3):
@@ -149,7 +152,7 @@ class AtOnceTest(unittest.TestCase):
             self.assertEqual(at_once(BLOCK, ORDER, place), ())
 
     def test_those_that_meet_two_by_two_are_waited_for_at_one_place(self):
-        for block, order in runs(some_blocks()):
+        for block, order in runs():
             pairs = meeting(block, order)
             at_places = [at_once(block, order, place) for place in range(len(order))]
             for some in all_sets(waits_by_hand(block, order)):
@@ -159,7 +162,7 @@ class AtOnceTest(unittest.TestCase):
 
 class PartedTest(unittest.TestCase):
     def test_parted(self):
-        for block, order in runs(some_blocks()):
+        for block, order in runs():
             told = adding_by_hand(block, order)
             every = partitions(tuple(sorted(waits_by_hand(block, order))))
             good = [parts for parts in every if all(part in told for part in parts)]
@@ -183,7 +186,7 @@ class PartedTest(unittest.TestCase):
         self.assertIs(is_parted(block, order, (("a", "c"), ("b",), ("d",))), False)
 
     def test_is_parted_of_wrong_parts(self):
-        for block, order in runs(few_blocks(3)):
+        for block, order in runs():
             parts = parted(block, order)
             self.assertIs(is_parted(block, order, parts), True)
             self.assertIs(is_parted(block, order, parts + ((),)), False)
