@@ -100,6 +100,14 @@ def is_order_of(reads, thing):
     return True
 
 
+def all_orders(reads):
+    """Give the ascending list of all tuples of the NAMEs of reads, each once, each behind all that it reads."""
+    orders = [()]
+    for _ in reads:
+        orders = [begun + (name,) for begun in orders for name in next_names(reads, begun)]
+    return orders
+
+
 def told_order(block, order):
     """Give the order as a tuple; raise NoOrder() if it is no ORDER of the block."""
     told = tupled(order)

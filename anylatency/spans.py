@@ -1,7 +1,7 @@
 """What the files about waiting share: the WAITs of an ORDER by NAME, and the END that they make."""
 
 from anylatency.blocks import awaited_in
-from anylatency.plain import reads_by_name, told_order, tupled
+from anylatency.plain import all_orders, readers_by_name, reads_by_name, told_order, tupled
 
 
 def first_readers(block, order):
@@ -22,6 +22,22 @@ def waits_in(block, order):
     readers = first_readers(block, order)
     places = {name: place for place, name in enumerate(order)}
     return {name: (places[name], readers[name]) for name in awaited_in(block)}
+
+
+def waits_by_order(block):
+    """Give a dict with the WAITs of each ORDER of the block, the ORDERs ascending."""
+    block = tupled(block)
+    reads = reads_by_name(block[0])
+    # Told once for all ORDERs: there are hundreds of them.
+    readers, awaited = readers_by_name(reads), awaited_in(block)
+    return {order: _waits_of(order, readers, awaited) for order in all_orders(reads)}
+
+
+def _waits_of(order, readers, awaited):
+    """Give a dict with the WAIT of each awaited one by this ORDER."""
+    places = {name: place for place, name in enumerate(order)}
+    ends = {name: min([places[one] for one in readers[name]], default=len(order)) for name in awaited}
+    return {name: (places[name], ends[name]) for name in awaited}
 
 
 def gap_in(wait):

@@ -4,14 +4,23 @@ import inspect
 import unittest
 from copy import deepcopy
 
-from anylatency import blocks, ends, issue, moves, never, waits
-from anylatency.errors import Needs, NoName, NoNumber, NoOrder, Twice
+from anylatency import (apart, best, blocks, board, desk, ends, great, issue, loops, moves, never, texts, told,
+                        waits)
+from anylatency.errors import BadLine, BadText, Needs, NoName, NoNumber, NoOrder, OtherNames, Twice
 from tests.small import has_list, listed
 
 BLOCK = ((("a", (), True), ("b", (), True), ("u", ("a", "b"), False), ("v", ("b",), False)), ("u", "v"))
 ORDER, WRONG = ("a", "b", "u", "v"), ("u", "a", "b", "v")
 TOLD = (("a", 3), ("b", 10 ** 40))
 OTHER, ONES, TOPS = ("b", "v", "a", "u"), (("a", 1), ("b", 1)), (("a", 3), ("b", 0))
+PAIRS, RING = (("v", "a"), ("a", "b")), ("u", "v")
+HELD = ((("a", (), True), ("b", (), True), ("u", ("a", "b"), False), ("v", ("b", "u"), True)), ("u", "v"))
+KEY = ((("a", 1), ("b", 0)), (("a", "b"),))
+LOOP = (BLOCK, (("a", "u"), ("b", "b"), ("b", "v")))
+READINGS = ((ONES, 4), ((("a", 3), ("b", 2)), 5))
+SOON, LATE = (9, (("a", 0, 4), ("b", 5, 9))), (9, (("a", 0, 2), ("b", 3, 4)))
+TEXT = "block a*; b*; u a b; v b | u v"
+MADE = texts.board_in(TEXT + "\nknown a=7\none: b v a u\ntwo: a b u v\none from * .. a b u v\nend")
 
 # Each function of the interface with the names of what it takes; thing is never handed in as a list.
 CALLS = (
@@ -100,10 +109,77 @@ CALLS = (
     (moves.paused, ("block", "order", "name", "place"), (BLOCK, ORDER, "n", 2)),
     (moves.hidden_under, ("block", "order", "place"), (BLOCK, ORDER, 2)),
     (moves.pause_cost, ("block", "order", "place", "latencies"), (BLOCK, ORDER, 2, TOLD)),
+    (apart.greatest_gap, ("block", "name"), (BLOCK, "b")),
+    (apart.order_with_gap, ("block", "name", "gap"), (BLOCK, "a", 1)),
+    (apart.is_order_with_gap, ("block", "name", "gap", "thing"), (BLOCK, "a", 1, ORDER)),
+    (apart.can_meet, ("block", "one", "other"), (BLOCK, "b", "a")),
+    (apart.can_part, ("block", "one", "other"), (BLOCK, "b", "a")),
+    (apart.meetable, ("block",), (BLOCK,)),
+    (apart.always_meeting, ("block",), (BLOCK,)),
+    (apart.can_all_meet, ("block", "pairs"), (HELD, PAIRS)),
+    (apart.order_meeting, ("block", "pairs"), (HELD, PAIRS[1:])),
+    (apart.is_order_meeting, ("block", "pairs", "thing"), (HELD, PAIRS[1:], ORDER)),
+    (apart.how_many_meeting, ("block", "pairs"), (HELD, PAIRS[1:])),
+    (apart.ring_of, ("block", "pairs"), (HELD, PAIRS)),
+    (apart.is_ring, ("block", "pairs", "thing"), (HELD, PAIRS, RING)),
+    (apart.great_meetings, ("block",), (BLOCK,)),
+    (best.key_of, ("block", "order"), (BLOCK, ORDER)),
+    (best.classes, ("block",), (BLOCK,)),
+    (best.orders_of, ("block", "key"), (BLOCK, KEY)),
+    (best.how_many_in, ("block", "key"), (BLOCK, KEY)),
+    (best.never_beaten, ("block",), (BLOCK,)),
+    (best.is_never_beaten, ("block", "order"), (BLOCK, ORDER)),
+    (best.beaten_by, ("block", "order"), (BLOCK, OTHER)),
+    (best.is_beaten_by, ("block", "order", "thing"), (BLOCK, OTHER, ("b", "a", "v", "u"))),
+    (best.best, ("block",), (BLOCK,)),
+    (best.is_best, ("block", "thing"), (((("a", (), True),), ("a",)), ("a",))),
+    (best.regret, ("block", "order"), (BLOCK, ORDER)),
+    (best.least_regret, ("block",), (BLOCK,)),
+    (best.calmest, ("block",), (BLOCK,)),
+    (best.is_calmest, ("block", "thing"), (BLOCK, ORDER)),
+    (best.safest_gap, ("block",), (BLOCK,)),
+    (best.safest, ("block",), (BLOCK,)),
+    (best.is_safest, ("block", "thing"), (BLOCK, ("b", "a", "v", "u"))),
+    (loops.is_loop, ("thing",), (LOOP,)),
+    (loops.carried_readers, ("loop", "name"), (LOOP, "b")),
+    (loops.awaited_in_rounds, ("loop",), (LOOP,)),
+    (loops.round_gap, ("loop", "order", "name", "last"), (LOOP, ORDER, "b", False)),
+    (loops.joint_meeting, ("loop", "order"), (LOOP, ORDER)),
+    (loops.rounds_end, ("loop", "order", "latencies", "rounds"), (LOOP, ORDER, TOLD, 10 ** 40)),
+    (loops.pace, ("loop", "order", "latencies"), (LOOP, ORDER, TOLD)),
+    (loops.first_later, ("loop", "one", "other"), (LOOP, OTHER, ORDER)),
+    (loops.loop_never_later, ("loop", "one", "other"), (LOOP, ORDER, OTHER)),
+    (loops.loop_alike, ("loop", "one", "other"), (LOOP, ORDER, OTHER)),
+    (loops.loop_slow_ones, ("loop", "one", "other"), (LOOP, OTHER, ORDER)),
+    (loops.loop_later_by, ("loop", "one", "other", "rounds"), (LOOP, ORDER, OTHER, 10 ** 40)),
+    (told.is_readings, ("block", "thing"), (BLOCK, READINGS)),
+    (told.fits_readings, ("block", "order", "readings"), (BLOCK, ORDER, READINGS)),
+    (told.orders_that_fit, ("block", "readings"), (BLOCK, READINGS)),
+    (told.keys_that_fit, ("block", "readings"), (BLOCK, READINGS)),
+    (told.known_gaps, ("block", "readings"), (BLOCK, READINGS)),
+    (told.sure_meets, ("block", "readings"), (BLOCK, READINGS)),
+    (told.next_ends, ("block", "readings", "latencies"), (BLOCK, READINGS, TOLD)),
+    (told.first_misfit, ("block", "readings"), (BLOCK, READINGS + ((ONES, 5),))),
+    (told.best_ask, ("block", "readings", "asks"), (BLOCK, READINGS, (ONES, TOLD))),
+    (told.gap_ask, ("block", "name"), (BLOCK, "b")),
+    (told.pair_ask, ("block", "one", "other"), (BLOCK, "b", "a")),
+    (told.told_back, ("block", "asker"), (BLOCK, lambda latencies: issue.end_of(BLOCK, OTHER, latencies))),
+    (great.is_long, ("thing",), (SOON,)),
+    (great.long_gaps, ("long",), (SOON,)),
+    (great.long_meeting, ("long",), (SOON,)),
+    (great.long_most, ("long",), (SOON,)),
+    (great.long_end, ("long", "latencies"), (SOON, TOLD)),
+    (great.long_never_later, ("one", "other"), (SOON, LATE)),
+    (great.long_later_by, ("one", "other"), (LATE, SOON)),
+    (texts.block_text, ("block",), (BLOCK,)),
+    (texts.block_in, ("text",), (TEXT[6:],)),
+    (texts.board_text, ("board",), (MADE,)),
+    (desk.answers, ("text",), (TEXT + "\norder one a b u v\nend one\nabove one",)),
 )
 
 # The functions that give a list; what others give, and what stands in these lists, are tuples all the way down.
-GIVE_LISTS = ("adding", "makers")
+GIVE_LISTS = ("adding", "makers", "great_meetings", "classes", "orders_of", "never_beaten", "orders_that_fit",
+              "keys_that_fit", "next_ends", "answers")
 
 REFUSED = (
     (blocks.reads_of, (BLOCK, "x"), NoName, {"name": "x"}),
@@ -131,6 +207,26 @@ REFUSED = (
     (moves.moved, (BLOCK, ORDER, "u", 0), Needs, {}),
     (moves.paused, (BLOCK, ORDER, "u", 9), Twice, {"name": "u"}),
     (moves.pause_cost, (BLOCK, ORDER, 9, TOLD), NoNumber, {"number": 9}),
+    (apart.greatest_gap, (BLOCK, "x"), NoName, {"name": "x"}),
+    (apart.order_with_gap, (BLOCK, "x", 0), NoName, {"name": "x"}),
+    (apart.can_meet, (BLOCK, "a", "x"), NoName, {"name": "x"}),
+    (apart.can_part, (BLOCK, "y", "x"), NoName, {"name": "y"}),
+    (best.key_of, (BLOCK, WRONG), NoOrder, {}),
+    (best.regret, (BLOCK, WRONG), NoOrder, {}),
+    (best.beaten_by, (BLOCK, WRONG), NoOrder, {}),
+    (loops.carried_readers, (LOOP, "x"), NoName, {"name": "x"}),
+    (loops.round_gap, (LOOP, WRONG, "x", True), NoOrder, {}),
+    (loops.round_gap, (LOOP, ORDER, "x", True), NoName, {"name": "x"}),
+    (loops.rounds_end, (LOOP, WRONG, TOLD, 3), NoOrder, {}),
+    (loops.loop_later_by, (LOOP, ORDER, WRONG, 3), NoOrder, {}),
+    (told.fits_readings, (BLOCK, WRONG, READINGS), NoOrder, {}),
+    (told.gap_ask, (BLOCK, "u"), NoName, {"name": "u"}),
+    (told.pair_ask, (BLOCK, "a", "u"), NoName, {"name": "u"}),
+    (great.long_later_by, (SOON, (8, ())), OtherNames, {}),
+    (great.long_never_later, (SOON, (9, ())), OtherNames, {}),
+    (texts.block_in, ("a",), BadText, {}),
+    (texts.board_in, (TEXT,), BadLine, {"number": 1}),
+    (desk.answers, (TEXT + "\nundo\nundone",), BadLine, {"number": 2}),
 )
 
 
@@ -153,7 +249,8 @@ def half_listed(value, depth=0):
 
 class CallsTest(unittest.TestCase):
     def test_every_function_is_here(self):
-        for module, many in ((blocks, 19), (issue, 13), (waits, 15), (ends, 10), (never, 13), (moves, 15)):
+        for module, many in ((blocks, 19), (issue, 13), (waits, 15), (ends, 10), (never, 13), (moves, 15),
+                             (apart, 14), (best, 17), (loops, 12), (told, 12), (great, 7), (texts, 3), (desk, 1)):
             called = [ask for ask, _, _ in CALLS if ask.__module__ == module.__name__]
             self.assertEqual(len(set(called)), many)
 
