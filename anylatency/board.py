@@ -10,7 +10,7 @@ EFFECTS = {"alike": "alike", "better": "more", "worse": "less", "apart": "either
 
 def board_of(state):
     """Give a Board in this state, with no deed to take back."""
-    made = Board(state[0])
+    made = Board()
     made._state = state
     return made
 

@@ -8,20 +8,24 @@ def first_readers(block, order):
     """Give a dict with the first reader of each instruction; raise NoOrder if order is none of the block."""
     block = tupled(block)
     told = told_order(block, order)
-    reads = reads_by_name(block[0])
-    found = {name: len(told) for name in reads}
-    # From the end on: the least place comes last, and stays.
-    for place in reversed(range(len(told))):
-        for one in reads[told[place]]:
-            found[one] = place
-    return found
+    return _firsts_by(told, readers_by_name(reads_by_name(block[0])))
+
+
+def _firsts_by(order, readers):
+    """Give a dict with the first reader of each instruction by this ORDER."""
+    places = {name: place for place, name in enumerate(order)}
+    return {name: min([places[one] for one in readers[name]], default=len(order)) for name in readers}
 
 
 def waits_in(block, order):
     """Give a dict with the WAIT of each awaited one, ascending; raise NoOrder if order is none of the block."""
-    readers = first_readers(block, order)
+    return _waits_by(order, first_readers(block, order), awaited_in(block))
+
+
+def _waits_by(order, firsts, awaited):
+    """Give a dict with the WAIT of each awaited one by this ORDER and these first readers."""
     places = {name: place for place, name in enumerate(order)}
-    return {name: (places[name], readers[name]) for name in awaited_in(block)}
+    return {name: (places[name], firsts[name]) for name in awaited}
 
 
 def waits_by_order(block):
@@ -30,14 +34,7 @@ def waits_by_order(block):
     reads = reads_by_name(block[0])
     # Told once for all ORDERs: there are hundreds of them.
     readers, awaited = readers_by_name(reads), awaited_in(block)
-    return {order: _waits_of(order, readers, awaited) for order in all_orders(reads)}
-
-
-def _waits_of(order, readers, awaited):
-    """Give a dict with the WAIT of each awaited one by this ORDER."""
-    places = {name: place for place, name in enumerate(order)}
-    ends = {name: min([places[one] for one in readers[name]], default=len(order)) for name in awaited}
-    return {name: (places[name], ends[name]) for name in awaited}
+    return {order: _waits_by(order, _firsts_by(order, readers), awaited) for order in all_orders(reads)}
 
 
 def gap_in(wait):

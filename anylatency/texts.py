@@ -24,8 +24,8 @@ def block_in(text):
     rows, _, live = text.partition(" | ")
     block = (() if rows == "-" else tuple([_row_in(part) for part in rows.split("; ")]),
              () if live == "-" else tuple(live.split(" ")))
-    # Whatever else was taken for a BLOCK here has another text.
-    if not is_block(block) or block_text(block) != text:
+    # Cut at single blanks just as they are put together: a text that is not so written leaves what is no NAME.
+    if not is_block(block):
         raise BadText()
     return block
 
@@ -101,7 +101,7 @@ def board_in(text):
     state = ()
     lines = text.split("\n")
     for number, line in enumerate(lines):
-        if state and number > 1 and line == "end":
+        if number > 1 and line == "end":
             _check_last(lines, number)
             return board_of(state)
         state = _state_behind(state, number, line)

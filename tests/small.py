@@ -212,3 +212,10 @@ def listed(value):
 def has_list(value):
     """Whether a list stands in value at any depth."""
     return isinstance(value, list) or isinstance(value, tuple) and any(has_list(part) for part in value)
+
+
+def turns(seed):
+    """Numbers that look as if they came by chance, the same each time."""
+    while True:
+        seed = (seed * 6364136223846793005 + 1442695040888963407) % 2 ** 64
+        yield seed >> 33

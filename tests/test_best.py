@@ -16,10 +16,15 @@ QUICK = ((("a", (), False), ("b", ("a",), False), ("c", (), True)), ("a", "b"))
 LONE = ((("a", (), True), ("q", (), False), ("u", ("a",), False)), ("u",))
 # a and b can be parted, so that some of its ORDERs have a regret, and others none.
 SPLIT = ((("a", (), True), ("b", (), True), ("c", ("b",), True), ("q", (), False), ("u", ("a",), False)), ("c", "u"))
+# Some of their ORDERs are beaten by none but such with the same GAPs, by which more meet.
+EVEN = ((("a", ("b",), True), ("b", (), True), ("c", ("a", "f"), False), ("d", ("b", "e"), True), ("e", (), True),
+         ("f", ("a",), False)), ("a", "c", "f"))
+LEVEL = ((("a", ("c",), True), ("b", ("c", "e"), True), ("c", (), True), ("d", ("c", "f"), False), ("e", ("a",), False),
+          ("f", (), True)), ("d", "e"))
 
 
 def blocks():
-    return few_blocks() + [WIDE, ROOMY, MIXED, LONE, SPLIT, chain(3, "b")] + some_blocks()[70::13]
+    return few_blocks() + [WIDE, ROOMY, MIXED, LONE, SPLIT, EVEN, LEVEL, chain(3, "b")] + some_blocks()[70::13]
 
 
 def key_by_hand(block, order):
@@ -105,6 +110,17 @@ class BeatenTest(unittest.TestCase):
                 for thing in table.orders[::1 + len(table.orders) // 12]:
                     self.assertIs(is_beaten_by(block, order, thing), thing in good)
                     self.assertIs(is_beaten_by(block, order, list(thing)), False)
+
+    def test_beaten_with_the_same_gaps_alone(self):
+        for block in (EVEN, LEVEL):
+            table = Table(block)
+            only = [order for order in table.orders if table.beaters[order] and all(
+                table.keys[one][0] == table.keys[order][0] for one in table.beaters[order])]
+            self.assertTrue(only)
+            for order in only:
+                self.assertIs(is_never_beaten(block, order), False)
+                self.assertNotIn(table.keys[order], never_beaten(block))
+                self.assertIn(beaten_by(block, order), table.beaters[order])
 
     def test_best(self):
         for block in blocks():

@@ -9,19 +9,12 @@ from anylatency.errors import NoEntry, NoFrame, NoName, NoOrder, NotKnown, Outsi
 from anylatency.issue import end_of
 from anylatency.never import never_later
 from tests.small import (LETTERS, MIXED, ROOMY, WIDE, all_orders, end_by_hand, few_blocks, gaps_by_hand, has_list,
-                         listed, loose, meeting_by_hand, slow_names, some_blocks)
+                         listed, loose, meeting_by_hand, slow_names, some_blocks, turns)
 
 EMPTY = ((), ())
 GREAT = 10 ** 40
 PLAIN, CLOSE, FAR, TURNED = ("a", "u", "b", "v"), ("a", "b", "u", "v"), ("a", "b", "v", "u"), ("b", "v", "a", "u")
 REFUSALS = (NoEntry, NoFrame, NoName, NoOrder, NotKnown, Outside)
-
-
-def turns(seed):
-    """Numbers that look as if they came by chance, the same each time."""
-    while True:
-        seed = (seed * 6364136223846793005 + 1442695040888963407) % 2 ** 64
-        yield seed >> 33
 
 
 def is_above(block, one, other):
@@ -184,6 +177,10 @@ class BoardTest(unittest.TestCase):
             self.assertEqual(board.end(name), ends[name])
         self.assertEqual(board.first(), tuple(sorted(name for name in ends if ends[name] == min(ends.values()))))
         self.assertFalse(has_list((board.block, board.known, board.names, board.frames, board.first())))
+        # A frame holds, whatever was done, undone or refused.
+        for name, low, high in board.frames:
+            self.assertTrue(low is None or never_later(block, board[name], low))
+            self.assertTrue(high is None or never_later(block, high, board[name]))
 
     def same_relations(self, board, model):
         entries, block = model.entries, model.block

@@ -7,18 +7,11 @@ from anylatency.board import Board
 from anylatency.desk import answers
 from anylatency.errors import BadLine, NoEntry, NoFrame, NoName, NoOrder, NotKnown, Outside
 from anylatency.texts import block_text
-from tests.small import LETTERS, MIXED, ROOMY, WIDE, all_orders, few_blocks, loose, slow_names, some_blocks
+from tests.small import LETTERS, MIXED, ROOMY, WIDE, all_orders, few_blocks, loose, slow_names, some_blocks, turns
 
 HEAD = "block a*; b*; u a; v b | u v"
 GREAT = 10 ** 40
 SIGNS = (" ", "a", "z", "A", "*", ":", "-", ".", "0", "1", "\t", "\r", "_", "\xe9", "\u0661", "%")
-
-
-def turns(seed):
-    """Numbers that look as if they came by chance, the same each time."""
-    while True:
-        seed = (seed * 6364136223846793005 + 1442695040888963407) % 2 ** 64
-        yield seed >> 33
 
 
 def shown(order):

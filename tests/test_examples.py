@@ -1,6 +1,9 @@
-"""The examples that the document shows, with the answers that stand there."""
+"""The examples that the document and README.md show, with the answers that stand there."""
 
+import builtins
+import doctest
 import unittest
+from pathlib import Path
 
 from anylatency import (apart, best, blocks, board, desk, ends, great, issue, loops, moves, never, texts, told,
                         waits)
@@ -339,6 +342,13 @@ class ExamplesTest(unittest.TestCase):
 
     def test_texts(self):
         self.assertEqual(self.go_through(TEXTS, board, texts, desk), 7)
+
+    def test_readme(self):
+        # What doctest shows it keeps under this name for all modules.
+        self.addCleanup(vars(builtins).pop, "_", None)
+        failed, tried = doctest.testfile(str(Path(__file__).resolve().parent.parent / "README.md"), False)
+        self.assertEqual(failed, 0)
+        self.assertGreater(tried, 10)
 
 
 if __name__ == "__main__":

@@ -7,7 +7,7 @@ from anylatency.errors import OtherNames
 from anylatency.great import (is_long, long_end, long_gaps, long_later_by, long_meeting, long_most, long_never_later)
 from anylatency.never import later_by, never_later
 from tests.small import (STRANGE, WIDE, ROOMY, MIXED, all_orders, all_sets, end_by_hand, few_blocks, gaps_by_hand,
-                         has_list, listed, meeting_by_hand, some_blocks, some_latencies, waits_by_hand)
+                         has_list, listed, meeting_by_hand, some_blocks, some_latencies, turns, waits_by_hand)
 
 GREAT = 10 ** 40
 NAMES = tuple("abcdefghijklmnopqrstuvwx")
@@ -55,13 +55,6 @@ def end_by_ticks(long, latencies):
             comes[begins[place]] = tick + lasts[begins[place]]
         tick += 1
     return tick - 1
-
-
-def turns(seed):
-    """Numbers that look as if they came by chance, the same each time."""
-    while True:
-        seed = (seed * 6364136223846793005 + 1442695040888963407) % 2 ** 64
-        yield seed >> 33
 
 
 class LongsTest(unittest.TestCase):

@@ -222,6 +222,16 @@ class EndsTest(unittest.TestCase):
                                          told * bottom + more * way * top)
         self.assertLessEqual({1, 2}, bottoms)
 
+    def test_pace_over_three_rounds(self):
+        # c reads what a made in the round ahead, b what c did, and a what b did: in three rounds once around.
+        loop = (((("a", (), True), ("b", (), True), ("c", (), True)), ()),
+                (("a", "c"), ("b", "a"), ("b", "b"), ("c", "b")))
+        order, latencies = ("a", "b", "c"), (("a", 20), ("b", 13), ("c", 13))
+        self.assertEqual(pace(loop, order, latencies), (46, 3))
+        ends = [end_in_rounds(loop, order, same_each_round(latencies, rounds), rounds) for rounds in (60, 63, 120)]
+        self.assertEqual((ends[1] - ends[0], ends[2] - ends[0]), (46, 920))
+        self.assertEqual([rounds_end(loop, order, latencies, rounds) for rounds in (60, 63, 120)], ends)
+
     def test_great_latencies(self):
         self.assertEqual(rounds_end(LOOP, SOON, (("a", GREAT),), 2), GREAT + 1)
         self.assertEqual(rounds_end(LOOP, SOON, (("a", GREAT),), 3), GREAT + 3)
