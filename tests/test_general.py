@@ -247,6 +247,16 @@ def half_listed(value, depth=0):
     return tuple(parts) if depth % 2 == 0 else parts
 
 
+def spoiled(value):
+    """The value with each of its parts, one at a time, and itself, replaced by what it is not."""
+    found = [MADE, NoName("a"), True, None, [], [MADE], "", (((((((((((MADE,),),),),),),),),),),)]
+    if isinstance(value, tuple):
+        found.extend((value + (MADE,), value + (None,)))
+        for at, part in enumerate(value):
+            found.extend(value[:at] + (wrong,) + value[at + 1:] for wrong in spoiled(part))
+    return found
+
+
 class CallsTest(unittest.TestCase):
     def test_every_function_is_here(self):
         for module, many in ((blocks, 19), (issue, 13), (waits, 15), (ends, 10), (never, 13), (moves, 15),
@@ -292,6 +302,16 @@ class CallsTest(unittest.TestCase):
             if names[-1] == "thing":
                 self.assertIs(ask(*given), True)
                 self.assertIs(ask(*given[:-1], listed(given[-1])), False)
+
+    def test_spoiled_things(self):
+        for ask, names, given in CALLS:
+            if names[-1] == "thing":
+                for wrong in spoiled(given[-1]):
+                    told = ask(*given[:-1], wrong)
+                    self.assertIsInstance(told, bool)
+                    # True in the place of False leaves a BLOCK a BLOCK; all else spoils it.
+                    if ask not in (blocks.is_block, loops.is_loop):
+                        self.assertIs(told, False, (ask.__name__, wrong))
 
     def test_refused(self):
         for ask, given, error, kept in REFUSED:
